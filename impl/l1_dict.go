@@ -166,6 +166,13 @@ func DictPairs(d Dict) []Pair {
 	return pairs
 }
 
+func copyDict(d Dict) Dict {
+	d.Log = append([]Pair(nil), d.Log...)
+	d.Ints = append([]int(nil), d.Ints...)
+	d.Index = append([]int(nil), d.Index...)
+	return d
+}
+
 func intValue(n int64) Value {
 	return Value{Kind: KInt, Num: n}
 }

@@ -13,7 +13,7 @@ import (
 func showStore(s impl.Store) string {
 	var b strings.Builder
 	for i, x := range s.Forest.Shapes {
-		fmt.Fprintf(&b, "shape %d: %d %.40q %d\n", i, x.Parent, x.Key, x.Count)
+		fmt.Fprintf(&b, "shape %d: %d %.40q of %d bytes, %d\n", i, x.Parent, x.Key, len(x.Key), x.Count)
 	}
 	for i, t := range s.Tables {
 		fmt.Fprintf(&b, "table %d: shape %d", i, t.Shape)
@@ -23,7 +23,7 @@ func showStore(s impl.Store) string {
 		fmt.Fprintf(&b, " dict %s\n", show(t.Dict))
 	}
 	for i, x := range s.Sites {
-		fmt.Fprintf(&b, "site %d: %.40q %d %d %d %d\n", i, x.Key, x.Shape, x.Place, x.Hits, x.Misses)
+		fmt.Fprintf(&b, "site %d: %.40q of %d bytes, %d %d %d %d\n", i, x.Key, len(x.Key), x.Shape, x.Place, x.Hits, x.Misses)
 	}
 	return b.String()
 }

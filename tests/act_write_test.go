@@ -179,6 +179,9 @@ func TestPutAtATableWithoutAShape(t *testing.T) {
 			}
 		}
 	}
+	for _, k := range []impl.Value{{Kind: impl.KStr, Str: "x", Flt: negZero}, {Kind: impl.KStr, Str: "new", Flt: negZero}} {
+		wantDone(t, "a zero below 0 beside the string", s, actPut(1, k, num(8)), impl.Ans{}, putBehind(s, 1, text(k.Str), num(8)))
+	}
 	wantSame(t, "nil at a new key", s, actPut(1, text("x"), nothing), impl.Ans{})
 	wantSame(t, "nil at a new key of the zero dict", s, actPut(4, num(1), nothing), impl.Ans{})
 	behind := impl.Do(s, actPut(1, num(2), nothing)).Store

@@ -237,7 +237,7 @@ func TestNewSites(t *testing.T) {
 	some.Tables = slices.Repeat(some.Tables[:1], 100)
 	behind := spoilStore(some, func(s *impl.Store) { s.Sites = append(s.Sites, site("y", -1, 0)) })
 	wantDone(t, "100 tables", some, actSite("y"), numbered(4), behind)
-	odd := impl.Act{Op: impl.ASite, K: impl.Value{Kind: impl.KStr, Str: "y", Flt: negZero}}
+	odd := impl.Act{Op: impl.ASite, K: signed(text("y"))}
 	wantDone(t, "a zero below 0 beside the string", some, odd, numbered(4), behind)
 }
 

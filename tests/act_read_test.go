@@ -17,8 +17,7 @@ func TestGetOfATableWithAShape(t *testing.T) {
 	wantSame(t, "three fields", s, actGet(0, text("z")), val(float(0.5)))
 	wantSame(t, "another order", s, actGet(3, text("y")), val(truth(0)))
 	wantSame(t, "another order", s, actGet(3, text("x")), val(thing(impl.KTable, 3)))
-	odd := impl.Value{Kind: impl.KStr, Str: "x", Flt: negZero}
-	wantSame(t, "a zero below 0 beside the key", s, actGet(0, odd), val(num(7)))
+	wantSame(t, "a zero below 0 beside the key", s, actGet(0, signed(text("x"))), val(num(7)))
 	for _, k := range []impl.Value{text("w"), text(""), text("X"), text("x\x00"), text(longKey), num(0), num(1), float(1), float(0.5), truth(1), builtin(0), thing(impl.KFn, 0)} {
 		for _, table := range []int{0, 2, 3, 5} {
 			wantSame(t, "no field", s, actGet(table, k), impl.Ans{})

@@ -41,8 +41,7 @@ func TestPutAtAField(t *testing.T) {
 			wantDone(t, "a field", s, actPut(0, text(key), v), impl.Ans{}, withTable(s, 0, record(4, vals...)))
 		}
 	}
-	odd := impl.Value{Kind: impl.KStr, Str: "y", Flt: negZero}
-	wantDone(t, "a zero below 0 beside the key", s, actPut(0, odd, num(9)), impl.Ans{}, withTable(s, 0, record(4, num(7), num(9), float(0.5))))
+	wantDone(t, "a zero below 0 beside the key", s, actPut(0, signed(text("y")), num(9)), impl.Ans{}, withTable(s, 0, record(4, num(7), num(9), float(0.5))))
 }
 
 func TestPutAtAFieldOfOneOfManyTables(t *testing.T) {
@@ -178,9 +177,6 @@ func TestPutAtATableWithoutAShape(t *testing.T) {
 				wantDone(t, "a dict", s, actPut(table, k, v), impl.Ans{}, putBehind(s, table, k, v))
 			}
 		}
-	}
-	for _, k := range []impl.Value{{Kind: impl.KStr, Str: "x", Flt: negZero}, {Kind: impl.KStr, Str: "new", Flt: negZero}} {
-		wantDone(t, "a zero below 0 beside the string", s, actPut(1, k, num(8)), impl.Ans{}, putBehind(s, 1, text(k.Str), num(8)))
 	}
 	wantSame(t, "nil at a new key", s, actPut(1, text("x"), nothing), impl.Ans{})
 	wantSame(t, "nil at a new key of the zero dict", s, actPut(4, num(1), nothing), impl.Ans{})

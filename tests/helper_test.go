@@ -24,6 +24,12 @@ func truth(n int64) impl.Value     { return impl.Value{Kind: impl.KBool, Num: n}
 func builtin(n int64) impl.Value   { return impl.Value{Kind: impl.KBuiltin, Num: n} }
 func thing(kind, r int) impl.Value { return impl.Value{Kind: kind, Ref: r} }
 
+// signed has a zero below 0 beside what it uses; it is for values that are no floats.
+func signed(v impl.Value) impl.Value {
+	v.Flt = negZero
+	return v
+}
+
 // showValue tells floats by their bits, for == takes the two zeros for one and no NaN for itself.
 func showValue(v impl.Value) string {
 	bits := math.Float64bits(v.Flt)

@@ -220,31 +220,3 @@ func TestValuesOfScriptsAsTheyCame(t *testing.T) {
 		}
 	}
 }
-
-// A zero of either sign beside a key makes it no other key. Beside a string it is not kept; else the key stays as it first came.
-func TestZerosBesideKeys(t *testing.T) {
-	for _, k := range []impl.Value{text("x"), num(1), num(9), truth(1), thing(impl.KFn, 3), builtin(3)} {
-		odd := k
-		odd.Flt = negZero
-		for _, keys := range [][2]impl.Value{{k, odd}, {odd, k}, {odd, odd}} {
-			first, twin := keys[0], keys[1]
-			seen := first
-			if k.Kind == impl.KStr {
-				seen = k
-			}
-			for what, begin := range map[string]step{"a shape": {actCount(0), numbered(0)}, "a dict": {actPut(0, num(5), num(5)), impl.Ans{}}} {
-				turn := map[string]int{"a shape": 1, "a dict": 2}[what]
-				wantSteps(t, what, []step{
-					{actNew(), numbered(0)}, begin, {actPut(0, first, num(1)), impl.Ans{}}, {actPut(0, twin, num(2)), impl.Ans{}}, {actGet(0, twin), val(num(2))},
-					{actAfter(0, turn-1), impl.Ans{Num: turn, Key: seen, Val: num(2)}}, {actCount(0), numbered(turn)},
-					{actPut(0, twin, nothing), impl.Ans{}}, {actGet(0, first), impl.Ans{}}, {actCount(0), numbered(turn - 1)},
-				})
-			}
-		}
-	}
-	site := impl.Act{Op: impl.ASite, K: impl.Value{Kind: impl.KStr, Str: "x", Flt: negZero}}
-	wantSteps(t, "a site", []step{
-		{site, numbered(0)}, {actNew(), numbered(0)}, {actSetField(0, 0, num(1)), impl.Ans{}}, {actAfter(0, 0), impl.Ans{Num: 1, Key: text("x"), Val: num(1)}},
-		{actPut(0, num(1), num(2)), impl.Ans{}}, {actSetField(0, 0, nothing), impl.Ans{}}, {actSetField(0, 0, num(3)), impl.Ans{}}, {actAfter(0, 2), impl.Ans{Num: 3, Key: text("x"), Val: num(3)}},
-	})
-}

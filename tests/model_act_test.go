@@ -55,15 +55,6 @@ func modelCode(s impl.Store, a impl.Act) int {
 	return 0
 }
 
-// modelActKey takes a string alone: a shape keeps nothing beside it, and what a script sees is the same with a dict.
-func modelActKey(a impl.Act) impl.Value {
-	key, _ := modelKey(a.K)
-	if key.Kind == impl.KStr {
-		return text(key.Str)
-	}
-	return key
-}
-
 func modelDo(s impl.Store, a impl.Act) impl.Done {
 	if modelStoreOk(s) != 0 {
 		return impl.Done{}
@@ -73,7 +64,7 @@ func modelDo(s impl.Store, a impl.Act) impl.Done {
 		return impl.Done{Store: next, Ans: impl.Ans{Code: code}}
 	}
 	ans := impl.Ans{}
-	key := modelActKey(a)
+	key, _ := modelKey(a.K)
 	switch a.Op {
 	case 1:
 		if ans.Num = len(s.Tables); ans.Num == 100 {

@@ -75,7 +75,7 @@ func (m *modelDesk) do(a impl.Act) impl.Ans {
 		m.sites = append(m.sites, a.K.Str)
 		return numbered(len(m.sites) - 1)
 	}
-	key := modelActKey(a)
+	key, _ := modelKey(a.K)
 	if a.Op > 7 {
 		key = text(m.sites[a.Site])
 	}
@@ -161,6 +161,37 @@ func turnsOf(table impl.Table) int {
 	return table.Dict.Turns
 }
 
+// byModel is the script done by the second reading of Do.
+func byModel(acts []impl.Act) impl.Played {
+	played := impl.Played{Ok: true, Store: impl.Empty()}
+	for _, a := range acts {
+		done := modelDo(played.Store, a)
+		played.Ans, played.Store = append(played.Ans, done.Ans), done.Store
+	}
+	return played
+}
+
+// keySeen is the key of a plain list as a table has it: as it came or, from a shape, the string alone.
+func keySeen(plain, key impl.Value) impl.Value {
+	if plain.Kind == impl.KStr && showValue(key) == showValue(text(plain.Str)) {
+		return key
+	}
+	return plain
+}
+
+func ansSeen(plain, ans impl.Ans) impl.Ans {
+	plain.Key = keySeen(plain.Key, ans.Key)
+	return plain
+}
+
+func pairsSeen(plain, pairs []impl.Pair) []impl.Pair {
+	plain = slices.Clone(plain)
+	for i := range min(len(plain), len(pairs)) {
+		plain[i].Key = keySeen(plain[i].Key, pairs[i].Key)
+	}
+	return plain
+}
+
 // wantScript is P9 for one script, and holds Ideally against the second reading.
 func wantScript(t *testing.T, what string, acts []impl.Act) (impl.Played, impl.Ideal) {
 	t.Helper()
@@ -169,7 +200,7 @@ func wantScript(t *testing.T, what string, acts []impl.Act) (impl.Played, impl.I
 		t.Fatalf("%s: %d acts: ok %v and %v, %d and %d answers", what, len(acts), played.Ok, ideal.Ok, len(played.Ans), len(ideal.Ans))
 	}
 	for i, a := range acts {
-		if p, d := showAns(played.Ans[i]), showAns(ideal.Ans[i]); p != d {
+		if p, d := showAns(played.Ans[i]), showAns(ansSeen(ideal.Ans[i], played.Ans[i])); p != d {
 			t.Fatalf("%s: act %d, %s: Play has %.300s, Ideally %.300s", what, i, showAct(a), p, d)
 		}
 	}
@@ -177,7 +208,8 @@ func wantScript(t *testing.T, what string, acts []impl.Act) (impl.Played, impl.I
 		t.Fatalf("%s: %d tables, %d plain ones", what, len(played.Store.Tables), len(ideal.Tables))
 	}
 	for i, plain := range ideal.Tables {
-		if p, d := showPairs(impl.PairsOf(played.Store, i)), showPairs(plain.Pairs); p != d {
+		pairs := impl.PairsOf(played.Store, i)
+		if p, d := showPairs(pairs), showPairs(pairsSeen(plain.Pairs, pairs)); p != d {
 			t.Fatalf("%s: the pairs of table %d: Play has\n%.2000s\nIdeally\n%.2000s", what, i, p, d)
 		}
 		if turns := turnsOf(played.Store.Tables[i]); turns != plain.Turns {
@@ -198,6 +230,14 @@ func wantByDo(t *testing.T, what string, acts []impl.Act) {
 	t.Helper()
 	if got, want := showPlayed(impl.Play(acts)), showPlayed(byDo(acts)); got != want {
 		t.Fatalf("%s: Play has\n%.3000s\nDo after Do\n%.3000s", what, got, want)
+	}
+}
+
+// wantByModel wants Play to answer what the second reading of Do does, each key with the sign beside it.
+func wantByModel(t *testing.T, what string, acts []impl.Act) {
+	t.Helper()
+	if got, want := showPlayed(impl.Play(acts)), showPlayed(byModel(acts)); got != want {
+		t.Fatalf("%s: Play has\n%.3000s\nthe second reading of Do\n%.3000s", what, got, want)
 	}
 }
 

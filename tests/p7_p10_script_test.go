@@ -78,8 +78,7 @@ func TestOddFieldsSameShape(t *testing.T) {
 	fields := []string{"", longKey, "\xff", "\x00", "x", "X"}
 	played, _ := wantScript(t, "odd fields", recordsOf(3, fields...))
 	wantOneShape(t, "odd fields", played.Store, fields...)
-	odd := impl.Value{Kind: impl.KStr, Str: "x", Flt: negZero}
-	s := impl.Play([]impl.Act{actNew(), actPut(0, text("x"), num(1)), actNew(), actPut(1, odd, num(2))}).Store
+	s := impl.Play([]impl.Act{actNew(), actPut(0, text("x"), num(1)), actNew(), actPut(1, signed(text("x")), num(2))}).Store
 	wantOneShape(t, "a zero below 0 beside the key", s, "x")
 }
 

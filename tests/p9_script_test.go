@@ -73,7 +73,7 @@ func oddly(r *dice, acts []impl.Act) []impl.Act {
 	for i := range acts {
 		for _, v := range []*impl.Value{&acts[i].K, &acts[i].V} {
 			if v.Kind != impl.KFlt && r.below(2) == 0 {
-				v.Flt = negZero
+				*v = signed(*v)
 			}
 		}
 	}
@@ -84,7 +84,9 @@ func TestScriptsWithZerosBesideTheirValues(t *testing.T) {
 	r := dice(52)
 	for i := range 20 {
 		acts := [][]impl.Act{chanceScript(&r, 700), recordActs(&r, 700), crowdActs(&r, 700, 30), wholeHouse()}[i%4]
-		wantScript(t, fmt.Sprint("script ", i), oddly(&r, acts))
+		acts = oddly(&r, acts)
+		wantScript(t, fmt.Sprint("script ", i), acts)
+		wantByModel(t, fmt.Sprint("script ", i), acts)
 	}
 }
 
